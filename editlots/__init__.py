@@ -1,0 +1,1 @@
+"""Editlots: versions that hang on their lots of edits alone."""

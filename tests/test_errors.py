@@ -1,0 +1,80 @@
+"""[0.2]: the errors, and the interface of each file."""
+
+import inspect
+import unittest
+
+from editlots import clocks, errors, histories, judge, numbers, rules, tables, told, wholerows
+
+NAMES = (
+    "BadMany BadTable BadState BadNames TooMany BadHistory BadBase Gaps Proof NotProof BadClocks BadRows BadRow "
+    "BadTold Can Fallen BadKind BadAmount BadFields BadRecord BadLot Full NoEdit BadName HasBranch NoBranch HasEdit "
+    "LacksEdit NothingBack NothingAgain Missing BadPacket Unlike BadParts CleanWay BadText NoName Twice NoVariable"
+).split()
+
+INTERFACE = {
+    numbers: {"is_prime": "n", "powers": "n"},
+    tables: {
+        "made_table": "thing", "is_table": "thing", "many": "table", "entry": "table o a b", "first_gap": "table",
+        "turn": "n", "sides": "n", "once": "n", "greater": "n", "product": "one two", "halves": "table m",
+        "renamed": "table names",
+    },
+    histories: {
+        "made_history": "n thing", "is_history": "n thing", "lots": "n history", "states": "table history",
+        "clash": "table history",
+    },
+    rules: {"broken": "table"},
+    judge: {"order_proof": "table", "least_clash": "table", "coordinates": "table", "why": "table"},
+    clocks: {"made_clocks": "thing", "kinds": "n", "table_of_clocks": "clocks"},
+    wholerows: {"span_factors": "rows many target", "scales": "rows many"},
+    told: {"made_told": "thing", "told_of": "table", "fallen": "told", "can": "told", "no_paper": "told"},
+}
+
+
+class TestErrors(unittest.TestCase):
+
+    def test_refused(self):
+        self.assertEqual(errors.Refused.__bases__, (ValueError,))
+        for what in (-1, (0, 1, 2), None, "a", True):
+            self.assertIs(errors.Refused(what).what, what)
+            self.assertIs(errors.Refused(what=what).what, what)
+
+    def test_all_stand_under_refused_alone(self):
+        for name in NAMES:
+            error = getattr(errors, name)
+            self.assertEqual(error.__bases__, (errors.Refused,), name)
+            self.assertEqual(error.__module__, "editlots.errors")
+            self.assertEqual(error((1, 2)).what, (1, 2))
+            self.assertEqual(error(what=3).what, 3)
+
+    def test_one_argument(self):
+        for name in NAMES + ["Refused"]:
+            with self.assertRaises(TypeError):
+                getattr(errors, name)()
+            with self.assertRaises(TypeError):
+                getattr(errors, name)(1, 2)
+
+
+class TestInterface(unittest.TestCase):
+
+    def test_functions_stand_in_their_files(self):
+        for module, functions in INTERFACE.items():
+            for name, arguments in functions.items():
+                function = getattr(module, name)
+                self.assertTrue(inspect.isfunction(function), name)
+                self.assertEqual(function.__module__, module.__name__, name)
+                self.assertEqual(list(inspect.signature(function).parameters), arguments.split(), name)
+
+    def test_arguments_by_name(self):
+        table = tables.turn(n=2)
+        history = (("first", 0),)
+        self.assertEqual(tables.entry(b=1, a=1, o=0, table=table), 0)
+        self.assertEqual(tables.halves(m=1, table=table), (table, tables.turn(1)))
+        self.assertEqual(tables.renamed(names=(1, 0), table=table), table)
+        self.assertEqual(histories.states(history=history, table=table), (0,))
+        self.assertEqual(histories.made_history(thing=history, n=2), history)
+        self.assertEqual(wholerows.span_factors(target=(2,), many=1, rows=((1,),)), (2,))
+        self.assertEqual(told.fallen(told=(1, ())), None)
+
+
+if __name__ == "__main__":
+    unittest.main()
