@@ -1,0 +1,147 @@
+"""What the tests reckon by ways of their own."""
+
+import itertools
+import random
+
+from editlots.tables import product, renamed, turn
+
+from helpers import changed
+
+# All clocks whose product is at most 12, written out.
+CLOCKS = (
+    (), (2,), (3,), (2, 2), (4,), (5,), (2, 3), (7,), (2, 2, 2), (2, 4), (8,), (3, 3), (9,), (2, 5), (11,),
+    (2, 2, 3), (4, 3),
+)
+
+
+def proof_tables(source):
+    """For all clocks the product of their turns, in order and in turned names, as (clocks, table)."""
+    found = []
+    for clocks in CLOCKS:
+        table = turn(1)
+        for clock in clocks:
+            table = product(table, turn(clock))
+        n = len(table)
+        found.append((clocks, table))
+        for _ in range(4):
+            found.append((clocks, renamed(table, tuple(source.sample(range(n), n)))))
+    return found
+
+
+def turned_proof_tables():
+    """Tables as proof_tables, the same at each call."""
+    return proof_tables(random.Random(99))
+
+
+def spoilt(source, table):
+    """The table with another entry at one place; it has at least two states."""
+    n = len(table)
+    place = tuple(source.randrange(n) for _ in range(3))
+    told = table[place[0]][place[1]][place[2]]
+    return changed(table, *place, (told + source.randrange(1, n)) % n)
+
+
+def breaks(table, rule):
+    """Whether the table breaks the rule, word by word."""
+    if rule[0] == "still":
+        o, a = rule[1:]
+        return table[o][a][o] != a or table[o][o][a] != a
+    if rule[0] == "turned":
+        o, a, b = rule[1:]
+        return table[o][a][b] != table[o][b][a]
+    assert rule[0] == "late"
+    o, a, b, c = rule[1:]
+    e = table[o][a][b]
+    return table[a][c][e] != table[o][c][b]
+
+
+def all_rules(n):
+    """All rules over n states."""
+    found = [("still",) + told for told in itertools.product(range(n), repeat=2)]
+    found += [("turned",) + told for told in itertools.product(range(n), repeat=3)]
+    return found + [("late",) + told for told in itertools.product(range(n), repeat=4)]
+
+
+def breaks_any(table):
+    """Whether the table breaks any rule."""
+    return any(breaks(table, rule) for rule in all_rules(len(table)))
+
+
+def diagonal(rows):
+    """The numbers above 0 that whole changes of rows and places leave on the diagonal, each dividing the next."""
+    rows = [list(row) for row in rows if any(row)]
+    found = []
+    while any(any(row) for row in rows):
+        _, i, j = min((abs(x), i, j) for i, row in enumerate(rows) for j, x in enumerate(row) if x)
+        pivot = rows[i][j]
+        for k, row in enumerate(rows):
+            if k != i:
+                times = row[j] // pivot
+                rows[k] = [x - times * y for x, y in zip(row, rows[i])]
+        for k in range(len(rows[i])):
+            if k != j:
+                times = rows[i][k] // pivot
+                for row in rows:
+                    row[k] -= times * row[j]
+        if any(row[j] for k, row in enumerate(rows) if k != i) or any(rows[i][:j] + rows[i][j + 1:]):
+            continue
+        odd = [row for row in rows if any(x % pivot for x in row)]
+        if odd:
+            rows[i] = [x + y for x, y in zip(rows[i], odd[0])]
+            continue
+        found.append(abs(pivot))
+        rows = [row[:j] + row[j + 1:] for k, row in enumerate(rows) if k != i]
+    return found
+
+
+def in_span(rows, target):
+    """Whether the target is in the span: with it neither the rank nor the volume changes."""
+    with_it = diagonal(list(rows) + [target])
+    without = diagonal(rows)
+    return len(with_it) == len(without) and volume(with_it) == volume(without)
+
+
+def volume(numbers):
+    """The product of the numbers."""
+    found = 1
+    for number in numbers:
+        found *= number
+    return found
+
+
+def prime_powers(n):
+    """The prime powers whose product n is, as pairs (prime, power)."""
+    found = []
+    prime = 2
+    while n > 1:
+        power = 1
+        while n % prime == 0:
+            n //= prime
+            power *= prime
+        if power > 1:
+            found.append((prime, power))
+        prime += 1
+    return found
+
+
+def sizes_of(rows, many):
+    """The sizes that belong to the rows."""
+    numbers = diagonal(rows)
+    pairs = sorted(pair for number in numbers for pair in prime_powers(number))
+    return (0,) * (many - len(numbers)) + tuple(power for _, power in pairs)
+
+
+def summed(rows, factors, width):
+    """The sum of factor times row."""
+    return tuple(sum(factor * row[place] for factor, row in zip(factors, rows)) for place in range(width))
+
+
+def weights(n, row):
+    """The weights of a told row."""
+    o, a, b, c = row
+    return tuple((o == x) + (c == x) - (a == x) - (b == x) for x in range(n))
+
+
+def unit_difference(n, x, y):
+    """The row with 1 at x and -1 at y."""
+    return tuple((z == x) - (z == y) for z in range(n))
