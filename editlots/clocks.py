@@ -1,7 +1,7 @@
 """Clocks: prime powers in order, their kinds, and the tables that go round by them."""
 
 from editlots.errors import BadClocks, BadMany, TooMany
-from editlots.numbers import powers
+from editlots.numbers import power, powers
 from editlots.shapes import whole_between
 from editlots.tables import MOST_STATES, pair_table, turn
 
@@ -30,7 +30,7 @@ def kinds(n):
         raise BadMany(n)
     found = [()]
     for prime, often in powers(n):
-        ways = [sizes_of(prime, part) for part in partitions(often, 1)]
+        ways = [tuple([power(prime, part) for part in parts]) for parts in partitions(often, 1)]
         found = [ahead + sizes for ahead in found for sizes in ways]
     return tuple(sorted(found))
 
@@ -47,17 +47,6 @@ def table_of_clocks(clocks):
     for size in clocks:
         table = pair_table(table, turn(size))
     return table
-
-
-def sizes_of(prime, part):
-    """The prime multiplied as often as each number of the partition tells."""
-    sizes = []
-    for often in part:
-        size = 1
-        for _ in range(often):
-            size = size * prime
-        sizes.append(size)
-    return tuple(sizes)
 
 
 def partitions(total, least):

@@ -2,7 +2,7 @@
 
 from editlots.errors import NotProof, Proof
 from editlots.histories import clash
-from editlots.numbers import powers
+from editlots.numbers import power, powers
 from editlots.rules import broken_rule
 from editlots.tables import check_full
 
@@ -41,19 +41,17 @@ def why(table):
 
 def clash_of(table, rule):
     """The history of a broken rule, and the pair of versions that clashes in it."""
-    history = history_of(table, rule)
+    history = history_of(rule)
     i, j = clash(table, history)
     return (history, i, j)
 
 
-def history_of(table, rule):
+def history_of(rule):
     """The history in which this broken rule makes a clash."""
     start = (("first", rule[1]), ("edit", 0, rule[2]))
     if rule[0] == "still":
-        o, a = rule[1:]
-        if table[o][a][o] != a:
-            return start + (("merge", 0, 1, 0),)
-        return start + (("merge", 0, 0, 1),)
+        # This rule is told only where sides may be exchanged, so either order shows it.
+        return start + (("merge", 0, 1, 0),)
     if rule[0] == "turned":
         return start + (("edit", 0, rule[3]), ("merge", 0, 1, 2), ("merge", 0, 2, 1))
     edits = (("edit", 1, rule[4]), ("edit", 0, rule[3]))
@@ -66,7 +64,7 @@ def clocks_and_hands(plus):
     rounds = [multiples(plus, state) for state in range(n)]
     chosen = []
     for prime, often in powers(n):
-        chosen = chosen + clock_rounds(plus, rounds, n, prime)
+        chosen = chosen + clock_rounds(plus, rounds, power(prime, often))
     hands = {0: ()}
     for one in chosen:
         hands = further_hands(plus, hands, one)
@@ -83,13 +81,14 @@ def multiples(plus, state):
     return found
 
 
-def clock_rounds(plus, rounds, n, prime):
-    """Rounds of one state each that make up the states of prime order, the least ones first.
+def clock_rounds(plus, rounds, part):
+    """Rounds of one state each that make up all states whose own rounds divide part, the least first.
 
-    The greatest round that has nothing but 0 in common with those taken is
-    always one that the rest can be parted from, so taking it is never wrong.
+    Part is the greatest power of a prime by which the number of states can be
+    divided. The greatest round that has nothing but 0 in common with those
+    taken is always one that the rest can be parted from, so it is never wrong
+    to take it.
     """
-    part = prime_part(n, prime)
     chosen = []
     reached = [0]
     while len(reached) < part:
@@ -100,14 +99,6 @@ def clock_rounds(plus, rounds, n, prime):
         chosen.append(best)
         reached = [plus[x][y] for x in reached for y in best]
     return chosen[::-1]
-
-
-def prime_part(n, prime):
-    """The greatest power of the prime by which n can be divided."""
-    part = 1
-    while n % (part * prime) == 0:
-        part = part * prime
-    return part
 
 
 def apart(one, reached):

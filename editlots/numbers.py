@@ -50,3 +50,11 @@ def powers(n):
     if rest > 1:
         found.append((rest, 1))
     return tuple(found)
+
+
+def power(base, often):
+    """The base, multiplied so often; 1 if it is not multiplied at all."""
+    found = 1
+    for _ in range(often):
+        found = found * base
+    return found

@@ -6,6 +6,7 @@ A scale is a pair (size, column): the column has a mark for each place.
 from math import gcd, lcm
 
 from editlots.echelon import bezout, combined, with_units
+from editlots.numbers import power
 
 
 def greatest_order(basis, width):
@@ -49,9 +50,7 @@ def prime_scales(rows, prime, often):
     told from one that stands for the greatest size, and all is reckoned with
     small numbers.
     """
-    limit = prime
-    for _ in range(often):
-        limit = limit * prime
+    limit = power(prime, often + 1)
     width = len(rows[0])
     bands = with_units([[row[place] % limit for row in rows] for place in range(width)])
     left = list(range(len(rows)))
