@@ -171,6 +171,30 @@ class TestScales(Rows):
         ):
             self.check_scales(rows, len(rows[0]))
 
+    def test_rows_with_noughts_ahead(self):
+        # In these the greatest size hangs on the signs behind the leading numbers.
+        for rows in (
+            ((16, -6, -6, -2), (0, 9, 3, -8), (0, 0, 9, -3), (0, 0, 0, 4)),
+            ((8, 2, -8, -2, -4), (0, 16, -8, -5, 3), (0, 0, 8, 7, -1), (0, 0, 0, 4, 1), (0, 0, 0, 0, 3)),
+            ((9, 0, 1, -1, -1), (0, 9, 2, 2, 2), (0, 0, 4, -2, -1), (0, 0, 0, 4, 2), (0, 0, 0, 0, 4)),
+        ):
+            self.check_scales(rows, len(rows))
+            many = len(rows)
+            longer = tuple(row + (0, 0) for row in rows) + ((0,) * many + (997, 0), (0,) * (many + 1) + (991,))
+            self.refuses(TooMany, diagonal(rows)[-1] * 997 * 991, scales, longer, many + 2)
+        source = random.Random(14)
+        for _ in range(400):
+            many = source.randrange(2, 6)
+            rows = []
+            for at in range(many):
+                behind = tuple(source.randint(-9, 9) for _ in range(many - at - 1))
+                rows.append((0,) * at + (source.choice((2, 3, 4, 8, 9, 16)),) + behind)
+            for told in (tuple(rows), tuple(zip(*rows))):
+                if diagonal(told)[-1] <= 1000000:
+                    self.check_scales(told, many)
+                else:
+                    self.refuses(TooMany, diagonal(told)[-1], scales, told, many)
+
     def test_all_places(self):
         source = random.Random(7)
         for many in range(1, 14):
