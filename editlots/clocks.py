@@ -28,11 +28,7 @@ def kinds(n):
     """All clocks with the product n, rising as tuples."""
     if not whole_between(n, 1, MOST_KINDS):
         raise BadMany(n)
-    found = [()]
-    for prime, often in powers(n):
-        ways = [tuple([power(prime, part) for part in parts]) for parts in partitions(often, 1)]
-        found = [ahead + sizes for ahead in found for sizes in ways]
-    return tuple(sorted(found))
+    return all_clocks(n)
 
 
 def table_of_clocks(clocks):
@@ -47,6 +43,15 @@ def table_of_clocks(clocks):
     for size in clocks:
         table = pair_table(table, turn(size))
     return table
+
+
+def all_clocks(n):
+    """All clocks with this product, rising as tuples."""
+    found = [()]
+    for prime, often in powers(n):
+        ways = [tuple([power(prime, part) for part in parts]) for parts in partitions(often, 1)]
+        found = [ahead + sizes for ahead in found for sizes in ways]
+    return tuple(sorted(found))
 
 
 def partitions(total, least):

@@ -5,8 +5,24 @@ A scale is a pair (size, column): the column has a mark for each place.
 
 from math import gcd, lcm
 
-from editlots.echelon import bezout, combined, with_units
-from editlots.numbers import power
+from editlots.echelon import bezout, combined, echelon, with_units
+from editlots.errors import TooMany
+from editlots.numbers import power, powers
+
+MOST_SIZE = 1000000
+
+
+def span_scales(basis, width):
+    """All scales of the span of a basis, rows of so many numbers; those of size 0 stand ahead."""
+    short = [basis[place] for place in sorted(basis)]
+    turned = echelon(with_units([[row[place] for row in short] for place in range(width)]))
+    most = greatest_order(turned, len(short))
+    if most > MOST_SIZE:
+        raise TooMany(most)
+    found = free_scales(turned, len(short))
+    for prime, often in powers(most):
+        found = found + prime_scales(short, prime, often)
+    return found
 
 
 def greatest_order(basis, width):

@@ -170,6 +170,18 @@ def filled(n, told):
     return tuple([tuple([tuple([told(o, a, b) for b in states]) for a in states]) for o in states])
 
 
+def table_of_sums(sums):
+    """The table whose entry over o of a and b is the state e that gives with o what a gives with b.
+
+    Sums has what each two states give; a gap stands where there is no such state.
+    """
+    found = []
+    for row in sums:
+        back = {told: e for e, told in enumerate(row)}
+        found.append(tuple([tuple([back.get(told) for told in side]) for side in sums]))
+    return tuple(found)
+
+
 def one_side(o, a, b):
     """The side that did not stand still, a gap if both moved."""
     if a == o:

@@ -145,3 +145,27 @@ def weights(n, row):
 def unit_difference(n, x, y):
     """The row with 1 at x and -1 at y."""
     return tuple((z == x) - (z == y) for z in range(n))
+
+
+def random_told(source, n, rows):
+    """So many told rows of any states."""
+    return (n, tuple(tuple(source.randrange(n) for _ in range(4)) for _ in range(rows)))
+
+
+def kept_told(source, n, rows, size):
+    """So many told rows, at most, that some marks going round this size keep."""
+    marks = source.sample(range(size), n)
+    found = []
+    for _ in range(20 * rows):
+        o, a, b = (source.randrange(n) for _ in range(3))
+        mark = (marks[a] - marks[o] + marks[b]) % size
+        if mark in marks and len(found) < rows:
+            found.append((o, a, b, marks.index(mark)))
+    return (n, tuple(found))
+
+
+def pairs_fallen(told):
+    """All pairs of states that fall together, the less one ahead."""
+    n, rows = told
+    span = [weights(n, row) for row in rows]
+    return [(x, y) for x in range(n) for y in range(x + 1, n) if in_span(span, unit_difference(n, x, y))]

@@ -3,7 +3,9 @@
 import inspect
 import unittest
 
-from editlots import clocks, errors, histories, judge, numbers, rules, tables, told, wholerows
+from editlots import (
+    clocks, errors, groups, histories, judge, kernel, kinds, meters, numbers, records, rules, tables, told, wholerows,
+)
 
 NAMES = (
     "BadMany BadTable BadState BadNames TooMany BadHistory BadBase Gaps Proof NotProof BadClocks BadRows BadRow "
@@ -27,6 +29,20 @@ INTERFACE = {
     clocks: {"made_clocks": "thing", "kinds": "n", "table_of_clocks": "clocks"},
     wholerows: {"span_factors": "rows many target", "scales": "rows many"},
     told: {"made_told": "thing", "told_of": "table", "fallen": "told", "can": "told", "no_paper": "told"},
+    kernel: {
+        "clocks_right": "table clocks hands", "clash_right": "table history i j", "names_right": "one two names",
+        "sum_right": "told x y factors", "meters_right": "told meters", "forced_right": "told o a b c factors",
+        "beyond_right": "told o a b meters", "could_right": "told o a b paper",
+        "way_right": "kinds amounts steps order", "blocked_right": "kinds amounts steps stands",
+    },
+    groups: {"plus": "table a b", "back": "table a", "order_of": "table a"},
+    meters: {"meters": "told", "difference_sizes": "told"},
+    kinds: {
+        "made_kind": "thing", "is_kind": "thing", "made_amount": "kind thing", "amount": "kind state",
+        "state_at": "kind amount", "moved": "kind amount step", "step": "kind one two", "table_of": "kind",
+        "kind_of": "table",
+    },
+    records: {"made_fields": "thing", "made_record": "fields thing"},
 }
 
 

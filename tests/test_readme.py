@@ -4,6 +4,9 @@ import unittest
 
 from editlots.histories import clash, lots, states
 from editlots.judge import order_proof, why
+from editlots.kernel import clocks_right, meters_right
+from editlots.kinds import kind_of, state_at, table_of
+from editlots.meters import meters
 from editlots.tables import once, turn
 
 
@@ -20,6 +23,16 @@ class TestReadme(unittest.TestCase):
         self.assertEqual(lots(2, history), ((), (1,), (2,), (1, 2)))
         self.assertEqual(states(turn(2), history), (0, 1, 1, 0))
         self.assertIsNone(clash(turn(2), history))
+
+    def test_kinds_and_told_rows(self):
+        kind = ((4,), ((0,), (1,), (3,)))
+        self.assertEqual(table_of(kind)[0][1][2], 0)
+        self.assertIsNone(table_of(kind)[0][1][1])
+        self.assertEqual(state_at(kind, (3,)), 2)
+        self.assertIsNone(kind_of(once(2)))
+        told = (3, ((0, 1, 1, 2), (0, 2, 2, 0)))
+        self.assertIs(meters_right(told, meters(told)), True)
+        self.assertIs(clocks_right(turn(4), (4,), ((0,), (1,), (2,), (3,))), True)
 
 
 if __name__ == "__main__":

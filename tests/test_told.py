@@ -10,18 +10,13 @@ from editlots.tables import greater, once, product, sides, turn
 from editlots.told import can, fallen, made_told, no_paper, told_of
 
 from helpers import all_gaps, Case, changed, ODD, places, random_table
-from reckon import diagonal, in_span, summed, turned_proof_tables, unit_difference, volume, weights
+from reckon import diagonal, in_span, random_told, summed, turned_proof_tables, unit_difference, volume, weights
 
 
 def told_rows(table):
     """All entries of a table that are no gaps, as rows."""
     found = [(o, a, b, table[o][a][b]) for o, a, b in places(len(table))]
     return tuple(row for row in found if row[3] is not None)
-
-
-def random_told(source, n, rows):
-    """So many told rows of any states."""
-    return (n, tuple(tuple(source.randrange(n) for _ in range(4)) for _ in range(rows)))
 
 
 class TestMade(Case):
