@@ -1,9 +1,7 @@
 """The commutative sum that the entries over base 0 of an order-proof table are."""
 
-from editlots.errors import NotProof
-from editlots.judge import multiples
-from editlots.rules import broken_rule
-from editlots.tables import check_full, check_state, made_table
+from editlots.judge import check_proof, multiples
+from editlots.tables import check_state, made_table
 
 
 def plus(table, a, b):
@@ -30,7 +28,5 @@ def order_of(table, a):
 
 def sums_of(table):
     """The sums of all states; refused if the table has gaps or is not order-proof."""
-    check_full(table)
-    if broken_rule(table) is not None:
-        raise NotProof(0)
+    check_proof(table, 0)
     return table[0]

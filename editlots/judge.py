@@ -24,9 +24,7 @@ def least_clash(table):
 
 def coordinates(table):
     """The clocks by which the states go round, and the hands of each state."""
-    check_full(table)
-    if broken_rule(table) is not None:
-        raise NotProof(0)
+    check_proof(table, 0)
     return clocks_and_hands(table[0])
 
 
@@ -37,6 +35,13 @@ def why(table):
     if rule is None:
         return ("clocks",) + clocks_and_hands(table[0])
     return ("clash",) + clash_of(table, rule)
+
+
+def check_proof(table, which):
+    """Refuse what is no table, has gaps, or is not order-proof; that tells which of some tables it is."""
+    check_full(table)
+    if broken_rule(table) is not None:
+        raise NotProof(which)
 
 
 def clash_of(table, rule):

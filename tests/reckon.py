@@ -169,3 +169,48 @@ def pairs_fallen(told):
     n, rows = told
     span = [weights(n, row) for row in rows]
     return [(x, y) for x in range(n) for y in range(x + 1, n) if in_span(span, unit_difference(n, x, y))]
+
+
+def proof_tables_one_by_one(n):
+    """All order-proof tables of n states: each sum is tried that is commutative, with nought 0."""
+    places = [(a, b) for a in range(1, n) for b in range(a, n)]
+    found = []
+
+    def further(plus, k):
+        if k == len(places):
+            if all(plus[plus[a][b]][c] == plus[a][plus[b][c]] for a in range(n) for b in range(n) for c in range(n)):
+                found.append(table_of_sum(plus))
+            return
+        a, b = places[k]
+        for told in range(n):
+            if told not in plus[a] and told not in plus[b]:
+                plus[a][b] = plus[b][a] = told
+                further(plus, k + 1)
+                plus[a][b] = plus[b][a] = None
+
+    further([[b if a == 0 else a if b == 0 else None for b in range(n)] for a in range(n)], 0)
+    return found
+
+
+def table_of_sum(plus):
+    """The table of a less o, and b added, by this sum."""
+    less = [row.index(0) for row in plus]
+    states = range(len(plus))
+    return tuple(tuple(tuple(plus[plus[a][less[o]]][b] for b in states) for a in states) for o in states)
+
+
+def tells(table, rows):
+    """Whether the table tells all these rows."""
+    return all(table[o][a][b] == c for o, a, b, c in rows)
+
+
+def placings(clocks, n):
+    """All ways to give n states unlike hands by these clocks, those of state 0 noughts."""
+    every = list(itertools.product(*[range(clock) for clock in clocks]))
+    return [every[:1] + list(rest) for rest in itertools.permutations(every[1:], n - 1)]
+
+
+def holds_at(clocks, hands, row):
+    """Whether the told row is so by these hands."""
+    o, a, b, c = (hands[state] for state in row)
+    return all((o[k] + c[k] - a[k] - b[k]) % clock == 0 for k, clock in enumerate(clocks))

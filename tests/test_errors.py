@@ -4,7 +4,8 @@ import inspect
 import unittest
 
 from editlots import (
-    clocks, errors, groups, histories, judge, kernel, kinds, meters, numbers, records, rules, tables, told, wholerows,
+    clocks, counts, errors, fits, forced, groups, histories, judge, kernel, kinds, likeness, meters, numbers, records, rules,
+    tables, told, wholerows,
 )
 
 NAMES = (
@@ -43,6 +44,13 @@ INTERFACE = {
         "kind_of": "table",
     },
     records: {"made_fields": "thing", "made_record": "fields thing"},
+    likeness: {"names": "one two", "alike": "one two"},
+    counts: {"self_turnings": "clocks", "tables_count": "n"},
+    forced: {
+        "forced": "told o a b", "forced_paper": "told o a b", "known": "told", "could": "told o a b",
+        "could_paper": "told o a b",
+    },
+    fits: {"complete": "told"},
 }
 
 
