@@ -8,7 +8,7 @@ from editlots.histories import is_history, lot_bits, states_by
 from editlots.kinds import hands_fit, table_by_hands
 from editlots.papers import factors_make, keeps, keeps_all, meters_show, part_shows, states_all, sum_shows
 from editlots.records import amounts_fit, wrong_fields
-from editlots.shapes import tuple_between, whole_between
+from editlots.shapes import tuple_between, whole, whole_between
 from editlots.stands import clean_stands, clean_throughout, parts_fit, parts_of
 from editlots.tables import gap_place, is_table, names_of, renamed
 from editlots.told import weights, wrong_told
@@ -93,13 +93,12 @@ def blocked_right(kinds, amounts, steps, stands):
     """Whether these are all stands that can be come to by clean ones, that of all parts not among them."""
     if wrong_fields(kinds) is not None or not amounts_fit(kinds, amounts) or not parts_fit(kinds, steps):
         return False
-    many = len(steps)
-    if not isinstance(stands, tuple) or not all([stand_fits(many, stand) for stand in stands]):
+    if not isinstance(stands, tuple) or not all([numbers_alone(stand) for stand in stands]):
         return False
     found = sorted([parts_of(stand) for stand in clean_stands(kinds, amounts, steps)])
-    return stands == tuple(found) and tuple(range(many)) not in stands
+    return stands == tuple(found) and tuple(range(len(steps))) not in stands
 
 
-def stand_fits(many, thing):
-    """Whether it is a tuple of numbers of so many parts."""
-    return isinstance(thing, tuple) and all([whole_between(part, 0, many - 1) for part in thing])
+def numbers_alone(thing):
+    """Whether it is a tuple of nothing but numbers, so that no True in it is taken for 1."""
+    return isinstance(thing, tuple) and all([whole(part) for part in thing])
