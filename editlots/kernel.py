@@ -9,7 +9,7 @@ from editlots.kinds import hands_fit, table_by_hands
 from editlots.papers import factors_make, keeps, keeps_all, meters_show, part_shows, states_all, sum_shows
 from editlots.records import amounts_fit, wrong_fields
 from editlots.shapes import tuple_between, whole, whole_between
-from editlots.stands import clean_stands, clean_throughout, parts_fit, parts_of
+from editlots.stands import all_parts, clean_throughout, clean_ways, parts_fit, sorted_stands
 from editlots.tables import gap_place, is_table, names_of, renamed
 from editlots.told import weights, wrong_told
 
@@ -95,8 +95,8 @@ def blocked_right(kinds, amounts, steps, stands):
         return False
     if not isinstance(stands, tuple) or not all([numbers_alone(stand) for stand in stands]):
         return False
-    found = sorted([parts_of(stand) for stand in clean_stands(kinds, amounts, steps)])
-    return stands == tuple(found) and tuple(range(len(steps))) not in stands
+    found = clean_ways(kinds, amounts, steps)
+    return all_parts(steps) not in found and stands == sorted_stands(found)
 
 
 def numbers_alone(thing):

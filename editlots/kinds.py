@@ -41,8 +41,7 @@ def state_at(kind, amount):
     """The state that has this amount, None if it is barred."""
     made_kind(kind)
     check_amount(kind, amount)
-    hands = kind[1]
-    return hands.index(amount) if amount in hands else None
+    return state_by_hands(kind[1], amount)
 
 
 def moved(kind, amount, step):
@@ -58,7 +57,7 @@ def step(kind, one, two):
     made_kind(kind)
     check_amount(kind, one)
     check_amount(kind, two)
-    return tuple([(y - x) % size for size, x, y in zip(kind[0], one, two)])
+    return amount_step(kind[0], one, two)
 
 
 def table_of(kind):
@@ -116,6 +115,24 @@ def check_amount(kind, thing):
 def amount_sum(sizes, one, two):
     """The sum of two amounts."""
     return tuple([(x + y) % size for size, x, y in zip(sizes, one, two)])
+
+
+def amount_step(sizes, one, two):
+    """The step that leads from one amount to another."""
+    return tuple([(y - x) % size for size, x, y in zip(sizes, one, two)])
+
+
+def state_by_hands(hands, amount):
+    """The state with this amount, None if no state has it."""
+    return hands.index(amount) if amount in hands else None
+
+
+def entry_by_hands(kind, o, a, b):
+    """The entry of the table of a kind, None also where one of the three is barred."""
+    if None in (o, a, b):
+        return None
+    sizes, hands = kind
+    return state_by_hands(hands, amount_sum(sizes, hands[a], amount_step(sizes, hands[o], hands[b])))
 
 
 def table_by_hands(sizes, hands):

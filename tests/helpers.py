@@ -20,6 +20,14 @@ ODD = (
 )
 
 
+def outcome(call, *args):
+    """What the call returns, or the name of the error's class and its what: (True, value) or (name, what)."""
+    try:
+        return (True, call(*args))
+    except errors.Refused as error:
+        return (type(error).__name__, error.what)
+
+
 class Case(unittest.TestCase):
     """A test case that can tell which error is raised, and of what."""
 

@@ -4,8 +4,8 @@ import inspect
 import unittest
 
 from editlots import (
-    clocks, counts, errors, fits, forced, groups, histories, judge, kernel, kinds, likeness, meters, numbers, records, rules,
-    tables, told, wholerows,
+    branches, clocks, counts, desk, errors, fits, forced, gridtexts, groups, histories, historytexts, judge, kernel, kinds,
+    kindtexts, likeness, lotwork, meters, numbers, records, replicas, rules, ruletexts, tables, told, vault, ways, wholerows,
 )
 
 NAMES = (
@@ -51,6 +51,28 @@ INTERFACE = {
         "could_paper": "told o a b",
     },
     fits: {"complete": "told"},
+    lotwork: {"made_lot": "many thing", "joined": "one two", "common": "one two", "lacking": "one two"},
+    ways: {"part_steps": "vault lot parts", "clean_way": "vault lot parts", "blocked": "vault lot parts"},
+    gridtexts: {"read_grid": "text", "print_grid": "names table"},
+    ruletexts: {"read_rules": "text", "read_told": "text", "print_told": "names told"},
+    historytexts: {"read_history": "names text", "print_history": "names history"},
+    kindtexts: {"read_kind": "text", "print_kind": "names kind"},
+}
+
+CLASSES = {
+    (vault, "Vault"): {
+        "__init__": "fields record", "edit": "lot record", "edits": "", "steps_of": "edit", "made_on": "edit", "amounts": "lot",
+        "record": "lot", "barred": "lot", "merged": "base one two", "fields": "", "first": "",
+    },
+    (branches, "Branches"): {
+        "__init__": "vault", "names": "", "head": "name", "start": "name lot", "commit": "name record", "merge": "name other",
+        "pick": "name edit", "take_out": "name edit", "drop": "name", "log": "name", "back": "", "again": "",
+    },
+    (replicas, "Replica"): {
+        "__init__": "hand fields record", "edit": "lot record", "known": "", "amounts": "lot", "record": "lot", "barred": "lot",
+        "packet": "ids", "take": "packet", "set_head": "name lot", "head": "name", "heads": "", "hear": "heads",
+    },
+    (desk, "Desk"): {"__init__": "fields names record", "row": "text", "text": ""},
 }
 
 
@@ -87,6 +109,17 @@ class TestInterface(unittest.TestCase):
                 self.assertTrue(inspect.isfunction(function), name)
                 self.assertEqual(function.__module__, module.__name__, name)
                 self.assertEqual(list(inspect.signature(function).parameters), arguments.split(), name)
+
+    def test_classes_stand_in_their_files(self):
+        for (module, name), methods in CLASSES.items():
+            found = getattr(module, name)
+            self.assertTrue(inspect.isclass(found), name)
+            self.assertEqual(found.__module__, module.__name__)
+            for method, arguments in methods.items():
+                # Defined in the class itself.
+                self.assertTrue(inspect.isfunction(vars(found)[method]), method)
+                told = list(inspect.signature(vars(found)[method]).parameters)
+                self.assertEqual(told, ["self"] + arguments.split(), (name, method))
 
     def test_arguments_by_name(self):
         table = tables.turn(n=2)

@@ -8,6 +8,7 @@ import unittest
 from editlots.kernel import blocked_right, way_right
 from editlots.kinds import step
 
+from drawn import random_fields
 from judgecase import JudgeCase
 from judging import blocked_holds, stands_come_to, way_holds
 
@@ -17,16 +18,6 @@ PAIRS = ((2, 3), ((0, 0), (0, 1), (1, 0), (1, 2)))
 # The two edits of the document: from 0 to 1, and from there to 3.
 STEPS = (((0, ((1,),)),), ((1, ((2,),)),))
 GREAT = 10 ** 300
-
-
-def random_fields(source, many):
-    """Fields of small kinds, in which many amounts are states."""
-    found = []
-    for _ in range(many):
-        sizes = source.choice(((2,), (3,), (4,), (2, 2), (2, 3), (5,)))
-        every = list(itertools.product(*[range(size) for size in sizes]))
-        found.append((sizes, tuple(source.sample(every, source.randrange(1 + len(every) // 2, len(every) + 1)))))
-    return tuple(found)
 
 
 def random_ways(source):
