@@ -5,7 +5,7 @@ Each row is read to its end before anything is done or asked.
 
 from editlots.errors import Gaps
 from editlots.forced import could, forced
-from editlots.headings import read_state, state_named, states_text
+from editlots.headings import read_state, states_text
 from editlots.historytexts import print_history
 from editlots.judge import why
 from editlots.ruletexts import rules_by, told_by

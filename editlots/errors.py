@@ -6,6 +6,7 @@ class Refused(ValueError):
 
     def __init__(self, what):
         self.what = what
+        # The desk answers with the name of the class.
         self.called = self.__class__.__name__
 
 

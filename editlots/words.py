@@ -96,7 +96,7 @@ def name_fits(thing):
 
 def letter_fits(word):
     """Whether it is a letter word."""
-    return len(word) == 1 and word.isalpha() and word.isupper()
+    return len(word) == 1 and word.isupper()
 
 
 def figures_fit(word):

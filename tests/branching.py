@@ -3,8 +3,10 @@
 import re
 
 NO_NAMES = (
-    "", "A", "aB", "1", "1a", "a b", " a", "a ", "a\n", "\na", "a_", "_a", "a-b", "a.b", "a" * 13, "a" * 20000, "\u00e9", "a\u00e9",
-    "a\u00b2", "\u00b2", "a\u0661", "\u03b1", "\u00aa", "a\u01c6", "\uff41", "a%", None, True, False, 0, 1, (), ("a",), (("a", 0),), 10 ** 999,
+    "", "A", "aB", "1", "1a", "a b", " a", "a ", "a\n", "\na", "a_", "_a", "a-b", "a.b",
+    "a" * 13, "a" * 20000, "\u00e9", "a\u00e9",
+    "a\u00b2", "\u00b2", "a\u0661", "\u03b1", "\u00aa", "a\u01c6", "\uff41", "a%", None, True, False, 0, 1, (), ("a",),
+    (("a", 0),), 10 ** 999,
 )
 NAMES = ("a", "z", "main", "a1", "a0b", "gap", "turn", "any", "first", "abcdefghijkl", "x99999999999")
 

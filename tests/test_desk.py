@@ -144,17 +144,23 @@ class TestDeeds(DeskCase):
     def test_start(self):
         desk = example_desk()
         self.answers(
-            desk, ("start a -", "ok"), ("start b 0 1", "ok"), ("start start 1", "ok"), ("head start", "1"), ("head b", "0 1"),
+            desk, ("start a -", "ok"), ("start b 0 1", "ok"), ("start start 1", "ok"), ("head start", "1"),
+            ("head b", "0 1"),
             ("head a", "-"), ("  start   c-  ", "ok"),
         )
         self.keeps(
-            desk, ("start a -", "refused: HasBranch a"), ("start a 2", "refused: BadLot 2"), ("start d 1 0", "refused: BadLot -1"),
-            ("start d 0 0", "refused: BadLot -1"), ("start d 399", "refused: BadLot 399"), ("start d 400", "refused: BadLot -1"),
-            ("start d 999999", "refused: BadLot -1"), ("start d 1000000", "refused: BadText 8"), ("start d 00", "refused: BadText 8"),
+            desk, ("start a -", "refused: HasBranch a"), ("start a 2", "refused: BadLot 2"),
+            ("start d 1 0", "refused: BadLot -1"),
+            ("start d 0 0", "refused: BadLot -1"), ("start d 399", "refused: BadLot 399"),
+            ("start d 400", "refused: BadLot -1"),
+            ("start d 999999", "refused: BadLot -1"), ("start d 1000000", "refused: BadText 8"),
+            ("start d 00", "refused: BadText 8"),
             ("start d", "refused: BadText 7"), ("start", "refused: BadText 5"), ("start d - 1", "refused: BadText 10"),
-            ("start d - -", "refused: BadText 10"), ("start d 0 -", "refused: BadText 10"), ("start d 0,1", "refused: BadText 9"),
+            ("start d - -", "refused: BadText 10"), ("start d 0 -", "refused: BadText 10"),
+            ("start d 0,1", "refused: BadText 9"),
             ("start gap -", "refused: BadText 6"), ("start D -", "refused: BadText 6"), ("start 1 -", "refused: BadText 6"),
-            ("start abcdefghijklm -", "refused: BadText 6"), ("start d one", "refused: BadText 8"), ("start d 0 1 2 5", "refused: BadLot 2"),
+            ("start abcdefghijklm -", "refused: BadText 6"), ("start d one", "refused: BadText 8"),
+            ("start d 0 1 2 5", "refused: BadLot 2"),
             ("start d ->", "refused: BadText 8"), ("start d 3 2", "refused: BadLot -1"),
         )
 
@@ -166,7 +172,8 @@ class TestDeeds(DeskCase):
             ("commit main one", "refused: BadText 15"), ("commit main one y", "refused: NoName 16"),
             ("commit main x one", "refused: NoName 12"), ("commit main one x x", "refused: BadText 18"),
             ("commit main one gap", "refused: BadText 16"), ("commit main 1 x", "refused: BadText 12"),
-            ("commit main X x", "refused: BadText 12"), ("commit main", "refused: BadText 11"), ("commit", "refused: BadText 6"),
+            ("commit main X x", "refused: BadText 12"), ("commit main", "refused: BadText 11"),
+            ("commit", "refused: BadText 6"),
             ("commit gap one x", "refused: BadText 7"), ("commit main one, x", "refused: BadText 15"),
         )
         self.assertEqual(desk.text(), "fields 2 | 0 on -: 1 / - | 1 on 0: 0 / - | main 0 1")
@@ -182,18 +189,25 @@ class TestDeeds(DeskCase):
         desk = example_desk()
         self.answers(
             desk, ("merge side side", "ok"), ("merge side main", "ok"), ("head side", "0 1"), ("out side 1", "ok"),
-            ("pick side 1", "ok"), ("drop side", "ok"), ("names", "main"), ("back", "ok"), ("back", "ok"), ("head side", "0"),
+            ("pick side 1", "ok"), ("drop side", "ok"), ("names", "main"), ("back", "ok"), ("back", "ok"),
+            ("head side", "0"),
             ("again", "ok"), ("head side", "0 1"), ("again", "ok"), ("names", "main"),
         )
         self.keeps(
             desk, ("merge main side", "refused: NoBranch side"), ("merge side main", "refused: NoBranch side"),
-            ("merge main", "refused: BadText 10"), ("merge main main main", "refused: BadText 16"), ("merge", "refused: BadText 5"),
-            ("pick main 2", "refused: NoEdit 2"), ("pick main 999999", "refused: NoEdit 999999"), ("pick main 0", "refused: HasEdit 0"),
-            ("pick main -", "refused: BadText 10"), ("pick main", "refused: BadText 9"), ("pick main 0 1", "refused: BadText 12"),
-            ("pick side 9", "refused: NoBranch side"), ("out main 2", "refused: NoEdit 2"), ("out main 02", "refused: BadText 9"),
-            ("out main", "refused: BadText 8"), ("out main 0 0", "refused: BadText 11"), ("drop side", "refused: NoBranch side"),
+            ("merge main", "refused: BadText 10"), ("merge main main main", "refused: BadText 16"),
+            ("merge", "refused: BadText 5"),
+            ("pick main 2", "refused: NoEdit 2"), ("pick main 999999", "refused: NoEdit 999999"),
+            ("pick main 0", "refused: HasEdit 0"),
+            ("pick main -", "refused: BadText 10"), ("pick main", "refused: BadText 9"),
+            ("pick main 0 1", "refused: BadText 12"),
+            ("pick side 9", "refused: NoBranch side"), ("out main 2", "refused: NoEdit 2"),
+            ("out main 02", "refused: BadText 9"),
+            ("out main", "refused: BadText 8"), ("out main 0 0", "refused: BadText 11"),
+            ("drop side", "refused: NoBranch side"),
             ("drop", "refused: BadText 4"), ("drop main main", "refused: BadText 10"), ("back main", "refused: BadText 5"),
-            ("again 1", "refused: BadText 6"), ("again", "refused: NothingAgain 0"), ("take_out main 0", "refused: BadText 0"),
+            ("again 1", "refused: BadText 6"), ("again", "refused: NothingAgain 0"),
+            ("take_out main 0", "refused: BadText 0"),
         )
         self.answers(desk, ("out main 0", "ok"), ("out main 0", "refused: LacksEdit 0"))
 
@@ -216,15 +230,18 @@ class TestQuestions(DeskCase):
     def test_branches(self):
         desk = Desk((K, ONE, PAIRS), (ZERO, ("x",), ("a", "b", "c", "d")), (0, 0, 1))
         self.answers(
-            desk, ("head main", "-"), ("record main", "zero x b"), ("barred main", "-"), ("log main", "-"), ("names", "main"),
+            desk, ("head main", "-"), ("record main", "zero x b"), ("barred main", "-"), ("log main", "-"),
+            ("names", "main"),
             ("commit main one x d", "ok 0"), ("commit main three x a", "ok 1"), ("start s 1", "ok"),
-            ("log main", "0: 1 / - / 1 1 | 1: 2 / - / 1 1"), ("record s", "gap x d"), ("barred s", "0"), ("log s", "1: 2 / - / 1 1"),
+            ("log main", "0: 1 / - / 1 1 | 1: 2 / - / 1 1"), ("record s", "gap x d"), ("barred s", "0"),
+            ("log s", "1: 2 / - / 1 1"),
             ("head s", "1"), ("names", "main s"), ("drop main", "ok"), ("drop s", "ok"), ("names", "-"),
         )
         for word in ("head", "record", "barred", "log"):
             self.keeps(
                 desk, (word + " main", "refused: NoBranch main"), (word, "refused: BadText %d" % len(word)),
-                (word + " any", "refused: BadText %d" % (len(word) + 1)), (word + " a a", "refused: BadText %d" % (len(word) + 3)),
+                (word + " any", "refused: BadText %d" % (len(word) + 1)),
+                (word + " a a", "refused: BadText %d" % (len(word) + 3)),
                 (word + " 0", "refused: BadText %d" % (len(word) + 1)),
             )
         self.keeps(desk, ("names main", "refused: BadText 6"))
@@ -236,9 +253,12 @@ class TestQuestions(DeskCase):
             desk, ("judge a: any any any -> turn", "clocks -"), ("judge a b c d e f: any any any->turn", "clocks 2 3"),
             ("judge a b c d: any any any -> turn", "clocks 4"), ("judge a b: a a a -> a", "refused: Gaps a a b"),
             ("judge x y: X X Y -> Y; X Y X -> Y", "refused: Gaps x y y"), ("judge a: a a a -> b", "refused: NoName 18"),
-            ("judge a: a a a -> X", "refused: NoVariable 18"), ("judge a a: a a a -> a", "refused: Twice 8"), ("judge", "refused: BadText 5"),
-            ("judge a:", "refused: BadText 8"), ("judge a: a a a -> a;", "refused: BadText 20"), ("judge: a a a -> a", "refused: BadText 5"),
-            ("judge a b c d e f g h i j k l m: a", "refused: TooMany 30"), ("judge a: a a a -> a | a", "refused: BadText 20"),
+            ("judge a: a a a -> X", "refused: NoVariable 18"), ("judge a a: a a a -> a", "refused: Twice 8"),
+            ("judge", "refused: BadText 5"),
+            ("judge a:", "refused: BadText 8"), ("judge a: a a a -> a;", "refused: BadText 20"),
+            ("judge: a a a -> a", "refused: BadText 5"),
+            ("judge a b c d e f g h i j k l m: a", "refused: TooMany 30"),
+            ("judge a: a a a -> a | a", "refused: BadText 20"),
             ("judge a: " + "a a a -> a;" * 40 + "a a a -> a", "refused: TooMany 449"),
         )
 
@@ -255,21 +275,30 @@ class TestQuestions(DeskCase):
     def test_ask(self):
         self.keeps(
             new_desk(), ("ask a b: | a b b", "could a"), ("ask a: | a a a", "forced a"), ("ask a b: | b a b", "forced a"),
-            ("ask a b c: a b b -> c; a c c -> a | a b c", "could -"), ("ask a b c: a b b -> c; a c c -> a | c b b", "forced a"),
-            ("ask a b c: | a b c", "could a"), ("ask a b c d: | a b c", "could a d"), ("ask c b a: c a a -> a | c c c", "fallen c a"),
+            ("ask a b c: a b b -> c; a c c -> a | a b c", "could -"),
+            ("ask a b c: a b b -> c; a c c -> a | c b b", "forced a"),
+            ("ask a b c: | a b c", "could a"), ("ask a b c d: | a b c", "could a d"),
+            ("ask c b a: c a a -> a | c c c", "fallen c a"),
             ("ask a b: a b b -> b | a b", "refused: BadText 25"), ("ask a b: a b b -> b", "refused: BadText 19"),
-            ("ask a b: a b b -> b | a b c", "refused: NoName 26"), ("ask a b: | a b gap", "refused: BadText 15"), ("ask", "refused: BadText 3"),
-            ("ask a b:", "refused: BadText 8"), ("ask a b: ; | a b b", "refused: BadText 9"), ("ask a b: a b b -> b; | a b b", "refused: BadText 21"),
-            ("ask a b | a b b", "refused: BadText 8"), ("ask a b: | a b b a", "refused: BadText 17"), ("ask a b: | | a b", "refused: BadText 11"),
-            ("ask a b: a b b -> b, a", "refused: BadText 19"), ("ask a a: | a a a", "refused: Twice 6"), ("ask a b: | a b any", "refused: BadText 15"),
-            ("ask a:" + "a a a->a;" * 2000 + "a", "refused: TooMany 18006"), ("ask a:" + ("a a a->a;" * 2000)[:-1] + "|a a a", "forced a"),
+            ("ask a b: a b b -> b | a b c", "refused: NoName 26"), ("ask a b: | a b gap", "refused: BadText 15"),
+            ("ask", "refused: BadText 3"),
+            ("ask a b:", "refused: BadText 8"), ("ask a b: ; | a b b", "refused: BadText 9"),
+            ("ask a b: a b b -> b; | a b b", "refused: BadText 21"),
+            ("ask a b | a b b", "refused: BadText 8"), ("ask a b: | a b b a", "refused: BadText 17"),
+            ("ask a b: | | a b", "refused: BadText 11"),
+            ("ask a b: a b b -> b, a", "refused: BadText 19"), ("ask a a: | a a a", "refused: Twice 6"),
+            ("ask a b: | a b any", "refused: BadText 15"),
+            ("ask a:" + "a a a->a;" * 2000 + "a", "refused: TooMany 18006"),
+            ("ask a:" + ("a a a->a;" * 2000)[:-1] + "|a a a", "forced a"),
         )
 
     def test_strange_first_words(self):
         desk = example_desk()
         for text, what in (
-            ("", 0), ("   ", 3), ("jump main", 0), ("  jump", 2), ("Start a -", 0), ("main", 0), ("-", 0), ("0", 0), (";", 0), ("heads main", 0),
-            ("head-main", 4), ("head main;", 9), ("backagain", 0), ("back;", 4), ("gap", 0), ("fields 1", 0), ("names -", 6), ("log main |", 9),
+            ("", 0), ("   ", 3), ("jump main", 0), ("  jump", 2), ("Start a -", 0), ("main", 0), ("-", 0), ("0", 0),
+            (";", 0), ("heads main", 0),
+            ("head-main", 4), ("head main;", 9), ("backagain", 0), ("back;", 4), ("gap", 0), ("fields 1", 0),
+            ("names -", 6), ("log main |", 9),
             ("startt a -", 0), ("back back", 5), ("take main", 0), ("edit 0 one", 0),
         ):
             self.keeps(desk, (text, "refused: BadText %d" % what))
@@ -278,16 +307,20 @@ class TestQuestions(DeskCase):
         desk = example_desk()
         for text, what in NO_TEXTS:
             self.keeps(desk, (text, "refused: BadText %d" % what))
+        self.keeps(desk, ("head main".ljust(20000), "0 1"), ("head main".ljust(20001), "refused: BadText 20000"))
         for thing in ODD:
             if type(thing) is not str:
                 self.keeps(desk, (thing, "refused: BadText -1"))
-        self.keeps(desk, ("head main\n", "refused: BadText 9"), ("%head main", "refused: BadText 0"), ("drop main \u00e9", "refused: BadText 10"))
+        self.keeps(desk, ("head main\n", "refused: BadText 9"), ("%head main", "refused: BadText 0"),
+        ("drop main \u00e9", "refused: BadText 10"))
 
 
 ROWS = (
-    "start side 0 1", "start side -", "commit main one x", "merge main side", "pick main 1", "out main 0", "drop side", "back",
+    "start side 0 1", "start side -", "commit main one x", "merge main side", "pick main 1", "out main 0", "drop side",
+    "back",
     "again", "head main", "record main", "barred main", "names", "log main", "judge off on: X X Y -> Y; any any any -> turn",
-    "judge a b: X Y Y -> Y; any any any -> turn", "ask a b c: a b b -> c; a c c -> a | a b c", "ask a b: | b a b", "drop head",
+    "judge a b: X Y Y -> Y; any any any -> turn", "ask a b c: a b b -> c; a c c -> a | a b c", "ask a b: | b a b",
+    "drop head",
 )
 
 
@@ -299,7 +332,8 @@ def drawn_row(source, desk, names):
     record = " ".join(source.choice(told + ("two",) * (source.randrange(9) == 0)) for told in desk.names)
     number = source.randrange(edits + 1)
     return source.choice((
-        "start %s %s" % (name, " ".join(map(str, lot)) or "-"), "commit %s %s" % (name, record), "commit %s %s" % (name, record),
+        "start %s %s" % (name, " ".join(map(str, lot)) or "-"), "commit %s %s" % (name, record),
+        "commit %s %s" % (name, record),
         "merge %s %s" % (name, other), "pick %s %d" % (name, number), "out %s %d" % (name, number), "drop %s" % name, "back",
         "back", "again", "again", "head %s" % name, "record %s" % name, "barred %s" % name, "log %s" % name, "names",
         source.choice(ROWS),
@@ -316,7 +350,9 @@ class TestBesideThePlainDesk(DeskCase):
         names = (ZERO, ("x",))
         for text in ROWS:
             desk, plain = self.desks((K, ONE), names, (0, 0))
-            for row in ("commit main one x", "commit main three x", "start head 1", "start side 0", "out main 0", "back", "back"):
+            for row in (
+                "commit main one x", "commit main three x", "start head 1", "start side 0", "out main 0", "back", "back",
+            ):
                 self.assertEqual(desk.row(row), plain.row(row))
             for bent in [text] + bent_texts(source, text, 150):
                 self.assertEqual(desk.row(bent), plain.row(bent), bent)
@@ -327,7 +363,8 @@ class TestBesideThePlainDesk(DeskCase):
         for many in (1, 2, 3, 6):
             for _ in range(3):
                 fields = random_fields(source, many)
-                names = tuple(tuple(source.sample(source.choice(NAME_SETS[2:] + (LETTERS,)), min(12, len(hands)))) for _, hands in fields)
+                sets = [source.choice(NAME_SETS[2:] + (LETTERS,)) for _ in fields]
+                names = tuple(tuple(source.sample(told, len(hands))) for told, (_, hands) in zip(sets, fields))
                 desk, plain = self.desks(fields, names, random_record(source, fields))
                 refused = 0
                 for _ in range(400):
@@ -351,7 +388,10 @@ class TestQuickly(DeskCase):
             desk.row("commit main " + " ".join(ZERO[(number + k) % 3] for k in range(6)))
         desk.row("start side " + " ".join(map(str, range(0, 400, 2))))
         for number in range(1000):
-            for row in ("head main", "record main", "barred side", "merge side side", "pick side %d" % number, "out main 399", "back", "names"):
+            for row in (
+                "head main", "record main", "barred side", "merge side side", "pick side %d" % number, "out main 399",
+                "back", "names",
+            ):
                 desk.row(row)
         for _ in range(200):
             desk.row("log main")
@@ -360,12 +400,17 @@ class TestQuickly(DeskCase):
 
     def test_long_rows(self):
         desk = new_desk()
-        rows = "; ".join("%s %s %s -> %s" % (LETTERS[k % 12], LETTERS[k // 12 % 12], LETTERS[k // 9 % 12], LETTERS[(k // 5) % 12]) for k in range(1200))
+        rows = "; ".join(
+            "%s %s %s -> %s" % tuple(LETTERS[k // size % 12] for size in (1, 12, 9, 5)) for k in range(1200)
+        )
         start = time.process_time()
         for text in (
-            " " * 20000, "a" * 20000, "->" * 10000, "start a " + "1 " * 9996, "start a " + "- " * 9996, "head " + "a" * 19995, "0" * 20001,
-            "ask a:" + ("a a a->a;" * 2000)[:-1] + "|a a a", "ask " + " ".join(LETTERS) + ": " + rows + " | a b c", "ask a b: " + "|" * 19000,
-            "judge " + " ".join(LETTERS) + ": " + "; ".join(["any X X -> gap; X any Y -> turn"] * 20), "judge a: " + "a " * 9995,
+            " " * 20000, "a" * 20000, "->" * 10000, "start a " + "1 " * 9996, "start a " + "- " * 9996,
+            "head " + "a" * 19995, "0" * 20001,
+            "ask a:" + ("a a a->a;" * 2000)[:-1] + "|a a a", "ask " + " ".join(LETTERS) + ": " + rows + " | a b c",
+            "ask a b: " + "|" * 19000,
+            "judge " + " ".join(LETTERS) + ": " + "; ".join(["any X X -> gap; X any Y -> turn"] * 20),
+            "judge a: " + "a " * 9995,
         ):
             for _ in range(20):
                 desk.row(text)

@@ -27,11 +27,14 @@ class TestReading(TextCase):
 
     def test_heading(self):
         for text, error, what in (
-            ("", BadText, 0), ("   ", BadText, 3), (":", BadText, 0), ("a", BadText, 1), ("a  ", BadText, 3), ("gap: gap", BadText, 0),
-            ("a any: a", BadText, 2), ("a turn: a", BadText, 2), ("A: A", BadText, 0), ("1: 1", BadText, 0), ("a1: a1, a1", BadText, 6),
+            ("", BadText, 0), ("   ", BadText, 3), (":", BadText, 0), ("a", BadText, 1), ("a  ", BadText, 3),
+            ("gap: gap", BadText, 0),
+            ("a any: a", BadText, 2), ("a turn: a", BadText, 2), ("A: A", BadText, 0), ("1: 1", BadText, 0),
+            ("a1: a1, a1", BadText, 6),
             ("a a: a", Twice, 2), ("a b a: a", Twice, 4), ("a b c d e f g h i j k l m: a", TooMany, 24),
             ("a b c d e f g h i j k l l: a", TooMany, 24), ("a b c d e f g h i j k l gap: a", BadText, 24),
-            ("a b c d e f g h i j k l 9: a", BadText, 24), ("abcdefghijklm: a", BadText, 0), ("a abcdefghijklm: a", BadText, 2),
+            ("a b c d e f g h i j k l 9: a", BadText, 24), ("abcdefghijklm: a", BadText, 0),
+            ("a abcdefghijklm: a", BadText, 2),
             ("a; a", BadText, 1), ("a -> a", BadText, 2), ("aB: aB", BadText, 0), ("9a: a", BadText, 0),
         ):
             self.refuses(error, what, read_grid, text)
@@ -43,15 +46,18 @@ class TestReading(TextCase):
         for text, error, what in (
             ("a:", BadText, 2), ("a: ", BadText, 3), ("a: a a", BadText, 5), ("a: a;", BadText, 4), ("a: a,", BadText, 4),
             ("a: b", NoName, 3), ("a: any", BadText, 3), ("a: turn", BadText, 3), ("a: X", BadText, 3), ("a: 0", BadText, 3),
-            ("a: ;", BadText, 3), ("a b: a b; a b", BadText, 8), ("a b: a b, a b, a b", BadText, 13), ("a b: a, b", BadText, 6),
-            ("a b: a c; a b", NoName, 7), ("a b: a b, a b; a b, a", BadText, 21), ("a b: a b, a b; a b, a b; a", BadText, 23),
+            ("a: ;", BadText, 3), ("a b: a b; a b", BadText, 8), ("a b: a b, a b, a b", BadText, 13),
+            ("a b: a, b", BadText, 6),
+            ("a b: a c; a b", NoName, 7), ("a b: a b, a b; a b, a", BadText, 21),
+            ("a b: a b, a b; a b, a b; a", BadText, 23),
             ("a b: a b, a b; a b, a b, a", BadText, 23), ("a b: a b, a b; a b, a b a", BadText, 24), ("a: first", NoName, 3),
-            ("a: a b", BadText, 5), ("a: A b", BadText, 3), ("a: ->", BadText, 3), ("a: -", BadText, 3), ("a: |", BadText, 3),
+            ("a: a b", BadText, 5), ("a: A b", BadText, 3), ("a: ->", BadText, 3), ("a: -", BadText, 3),
+            ("a: |", BadText, 3),
         ):
             self.refuses(error, what, read_grid, text)
 
     def test_no_texts(self):
-        self.refuses_no_texts(read_grid)
+        self.refuses_no_texts(read_grid, "a b: a b, b a; b a, a b")
 
     def test_bent_texts(self):
         source = random.Random(58)

@@ -53,12 +53,17 @@ class TestReading(TextCase):
         for text, error, what in (
             ("", BadText, 0), ("  ", BadText, 2), ("first", BadText, 5), ("first ", BadText, 6), ("off", BadText, 0),
             ("first 0", BadText, 6), ("first gap", BadText, 6), ("first any", BadText, 6), ("first X", BadText, 6),
-            ("first half", NoName, 6), ("first off on", BadText, 10), ("first off,", BadText, 9), ("first off;", BadText, 10),
+            ("first half", NoName, 6), ("first off on", BadText, 10), ("first off,", BadText, 9),
+            ("first off;", BadText, 10),
             ("first off; ; edit 0 on", BadText, 11), ("first off; on", BadText, 11), ("first off; edit", BadText, 15),
-            ("first off; edit on 0", BadText, 16), ("first off; edit 0", BadText, 17), ("first off; edit 0 half", NoName, 18),
-            ("first off; edit 0 0", BadText, 18), ("first off; edit 00 on", BadText, 16), ("first off; edit 01 on", BadText, 16),
-            ("first off; edit 1234567 on", BadText, 16), ("first off; edit -1 on", BadText, 16), ("first off; edit 0 on 1", BadText, 21),
-            ("first off; merge 0 0", BadText, 20), ("first off; merge 0 0 off", BadText, 21), ("first off; merge 0 0 0 0", BadText, 23),
+            ("first off; edit on 0", BadText, 16), ("first off; edit 0", BadText, 17),
+            ("first off; edit 0 half", NoName, 18),
+            ("first off; edit 0 0", BadText, 18), ("first off; edit 00 on", BadText, 16),
+            ("first off; edit 01 on", BadText, 16),
+            ("first off; edit 1234567 on", BadText, 16), ("first off; edit -1 on", BadText, 16),
+            ("first off; edit 0 on 1", BadText, 21),
+            ("first off; merge 0 0", BadText, 20), ("first off; merge 0 0 off", BadText, 21),
+            ("first off; merge 0 0 0 0", BadText, 23),
             ("first off; merge", BadText, 16), ("first off; edit 0 on;", BadText, 21), ("first off: edit 0 on", BadText, 9),
             ("first off; edit 0on", BadText, 16), ("first off;edit 0 half; merge", NoName, 17), ("First off", BadText, 0),
         ):
@@ -66,11 +71,14 @@ class TestReading(TextCase):
 
     def test_made_history_comes_behind_all_reading(self):
         for text, error, what in (
-            ("first off; edit 1 on", BadHistory, 1), ("first off; edit 999999 on", BadHistory, 1), ("first off; merge 0 0 1", BadHistory, 1),
-            ("first off; edit 0 on; merge 1 0 0", BadBase, 2), ("first off; edit 0 on; merge 1 0 0; edit 4 on", BadHistory, 3),
+            ("first off; edit 1 on", BadHistory, 1), ("first off; edit 999999 on", BadHistory, 1),
+            ("first off; merge 0 0 1", BadHistory, 1),
+            ("first off; edit 0 on; merge 1 0 0", BadBase, 2),
+            ("first off; edit 0 on; merge 1 0 0; edit 4 on", BadHistory, 3),
             ("first off; edit 1 on; edit 0 half", NoName, 29), ("first off; edit 1 on; edit", BadText, 26),
             ("first off" + "; edit 0 on" * 40, BadHistory, -1), ("first off" + "; edit 9 on" * 1800, BadHistory, -1),
-            ("first off" + "; edit 0 on" * 40 + " on", BadText, 450), ("first off" + "; edit 0 on" * 40 + "; edit 0 one", NoName, 458),
+            ("first off" + "; edit 0 on" * 40 + " on", BadText, 450),
+            ("first off" + "; edit 0 on" * 40 + "; edit 0 one", NoName, 458),
         ):
             self.refuses(error, what, read_history, NAMES, text)
         self.assertEqual(len(read_history(NAMES, "first off" + "; edit 0 on" * 39)), 40)
@@ -78,13 +86,14 @@ class TestReading(TextCase):
     def test_names_ahead_of_texts(self):
         self.refuses_state_names(lambda names: read_history(names, "first a"))
         self.refuses_state_names(lambda names: read_history(names, None))
-        self.refuses_no_texts(lambda text: read_history(("a",), text))
+        self.refuses_no_texts(lambda text: read_history(("a",), text), "first a; edit 0 a")
 
     def test_bent_texts(self):
         source = random.Random(61)
         told = set()
         for names, text in (
-            (NAMES, "first off; edit 0 on; merge 0 1 0"), (STRANGE, "first first; edit 0 edit; edit 0 merge; merge 0 1 2; edit 3 sizes"),
+            (NAMES, "first off; edit 0 on; merge 0 1 0"),
+            (STRANGE, "first first; edit 0 edit; edit 0 merge; merge 0 1 2; edit 3 sizes"),
             (("a", "b"), "first a"), (("a", "b"), "first b" + "; edit 0 a; merge 0 0 0" * 19),
         ):
             told |= self.reads_bent_history(source, names, text)

@@ -51,22 +51,31 @@ class TestReading(TextCase):
     def test_wrong_words(self):
         for text, error, what in (
             ("", BadText, 0), ("a", BadText, 1), ("a:", BadText, 2), ("a: size 4: 0", BadText, 3), ("a: 4: 0", BadText, 3),
-            ("a: sizes", BadText, 8), ("a: sizes 4", BadText, 10), ("a: sizes 4 a: 0", BadText, 11), ("a: sizes 4, 5: 0", BadText, 10),
-            ("a: sizes 4:", BadText, 11), ("a: sizes 4: a", BadText, 12), ("a: sizes 4: 0 1", BadText, 14), ("a: sizes 4: 0,", BadText, 13),
+            ("a: sizes", BadText, 8), ("a: sizes 4", BadText, 10), ("a: sizes 4 a: 0", BadText, 11),
+            ("a: sizes 4, 5: 0", BadText, 10),
+            ("a: sizes 4:", BadText, 11), ("a: sizes 4: a", BadText, 12), ("a: sizes 4: 0 1", BadText, 14),
+            ("a: sizes 4: 0,", BadText, 13),
             ("a: sizes 4: 0, 1", BadText, 13), ("a b: sizes 4: 0", BadText, 15), ("a b: sizes 4: 0; 1", BadText, 15),
-            ("a b: sizes 4: 0 1", BadText, 16), ("a b: sizes 4 5: 0, 1", BadText, 17), ("a b: sizes 4: 0, 1, 2", BadText, 18),
-            ("a: sizes: 0", BadText, 10), ("a b: sizes:", BadText, 11), ("a b: sizes: ,", BadKind, 1), ("a: sizes 4: -1", BadText, 12),
-            ("a: sizes 04: 0", BadText, 9), ("a: sizes 4: 00", BadText, 12), ("a: sizes 4: 9a", BadText, 12), ("a a: sizes:", Twice, 2),
-            ("a b c d e f g h i j k l m: sizes:", TooMany, 24), ("sizes: 4: 0", BadText, 7), ("a: sizes 4: gap", BadText, 12),
+            ("a b: sizes 4: 0 1", BadText, 16), ("a b: sizes 4 5: 0, 1", BadText, 17),
+            ("a b: sizes 4: 0, 1, 2", BadText, 18),
+            ("a: sizes: 0", BadText, 10), ("a b: sizes:", BadText, 11), ("a b: sizes: ,", BadKind, 1),
+            ("a: sizes 4: -1", BadText, 12),
+            ("a: sizes 04: 0", BadText, 9), ("a: sizes 4: 00", BadText, 12), ("a: sizes 4: 9a", BadText, 12),
+            ("a a: sizes:", Twice, 2),
+            ("a b c d e f g h i j k l m: sizes:", TooMany, 24), ("sizes: 4: 0", BadText, 7),
+            ("a: sizes 4: gap", BadText, 12),
         ):
             self.refuses(error, what, read_kind, text)
 
     def test_made_kind_comes_behind_all_reading(self):
         for text, error, what in (
-            ("a: sizes 1: 0", BadKind, 0), ("a: sizes 0: 0", BadKind, 0), ("a: sizes 4: 4", BadKind, 1), ("a b: sizes 4: 1, 1", BadKind, 1),
+            ("a: sizes 1: 0", BadKind, 0), ("a: sizes 0: 0", BadKind, 0), ("a: sizes 4: 4", BadKind, 1),
+            ("a b: sizes 4: 1, 1", BadKind, 1),
             ("a b: sizes 1: 1, 1", BadKind, 0), ("a b: sizes 1: 1, x", BadText, 17), ("a b: sizes 4: 9", BadText, 15),
-            ("a: sizes%s: 0%s" % (" 2" * 12, " 0" * 11), None, None), ("a: sizes%s: 0%s" % (" 2" * 13, " 0" * 12), BadKind, 0),
-            ("a: sizes%s: 0%s" % (" 2" * 13, " 0" * 11), BadText, 59), ("a: sizes%s: 0%s" % (" 2" * 4000, " 0" * 3999), BadKind, 0),
+            ("a: sizes%s: 0%s" % (" 2" * 12, " 0" * 11), None, None),
+            ("a: sizes%s: 0%s" % (" 2" * 13, " 0" * 12), BadKind, 0),
+            ("a: sizes%s: 0%s" % (" 2" * 13, " 0" * 11), BadText, 59),
+            ("a: sizes%s: 0%s" % (" 2" * 4000, " 0" * 3999), BadKind, 0),
         ):
             if error is None:
                 self.assertEqual(read_kind(text), (("a",), ((2,) * 12, ((0,) * 12,))))
@@ -74,13 +83,14 @@ class TestReading(TextCase):
                 self.refuses(error, what, read_kind, text)
 
     def test_no_texts(self):
-        self.refuses_no_texts(read_kind)
+        self.refuses_no_texts(read_kind, "a b: sizes 4: 0, 1")
 
     def test_bent_texts(self):
         source = random.Random(63)
         told = set()
         for text in (
-            "zero one three: sizes 4: 0, 1, 3", "on: sizes:", "sizes: sizes 2 3: 1 2", "a b c: sizes 2 1234567890: 0 1, 1 0, 1 29",
+            "zero one three: sizes 4: 0, 1, 3", "on: sizes:", "sizes: sizes 2 3: 1 2",
+            "a b c: sizes 2 1234567890: 0 1, 1 0, 1 29",
             print_kind(LETTERS, ((13, 2), tuple((k, k % 2) for k in range(12)))),
         ):
             for bent in [text] + bent_texts(source, text, 800):

@@ -21,7 +21,8 @@ def rises(thing):
 class TestMadeLot(Case):
 
     def test_right_ones(self):
-        for many, lot in ((0, ()), (1, ()), (1, (0,)), (5, (0, 4)), (5, (0, 1, 2, 3, 4)), (400, (399,)), (400, tuple(range(400)))):
+        for many, lot in ((0, ()), (1, ()), (1, (0,)), (5, (0, 4)), (5, (0, 1, 2, 3, 4)), (400, (399,)),
+        (400, tuple(range(400)))):
             self.assertIs(made_lot(many, lot), lot)
             self.assertIs(made_lot(thing=lot, many=many), lot)
 

@@ -82,10 +82,13 @@ class TestReadingRules(TextCase):
             ("a:", BadText, 2), ("a: ", BadText, 3), ("a: gap a a -> a", BadText, 3), ("a: turn a a -> a", BadText, 3),
             ("a: a a -> a", BadText, 7), ("a: a a a a -> a", BadText, 9), ("a: a a a -> any", BadText, 12),
             ("a: a a a -> a a", BadText, 14), ("a: a a a -> a, a", BadText, 13), ("a: a a a -> a;;", BadText, 14),
-            ("a: a a a - > a", BadText, 9), ("a: a a a -", BadText, 9), ("a: a a a ->", BadText, 11), ("a: a a a->a", None, None),
-            ("a: a a a -> b", NoName, 12), ("a: a a b -> a", NoName, 7), ("a: any any any -> 0", BadText, 18), ("a: 0 a a -> a", BadText, 3),
+            ("a: a a a - > a", BadText, 9), ("a: a a a -", BadText, 9), ("a: a a a ->", BadText, 11),
+            ("a: a a a->a", None, None),
+            ("a: a a a -> b", NoName, 12), ("a: a a b -> a", NoName, 7), ("a: any any any -> 0", BadText, 18),
+            ("a: 0 a a -> a", BadText, 3),
             ("a: x a a -> a", NoName, 3), ("a: X X X -> Y; b", NoVariable, 12), ("a: a a a -> a; b a a -> a", NoName, 15),
-            ("a: a a a -> turn; turn", BadText, 18), ("a: a a a -> a |", BadText, 14), (": a a a -> a", BadText, 0), ("", BadText, 0),
+            ("a: a a a -> turn; turn", BadText, 18), ("a: a a a -> a |", BadText, 14), (": a a a -> a", BadText, 0),
+            ("", BadText, 0),
         ):
             if error is None:
                 self.assertEqual(read_rules(text), (("a",), turn(1)))
@@ -105,7 +108,7 @@ class TestReadingRules(TextCase):
             self.refuses(error, what, read_rules, "a: " + text)
 
     def test_no_texts(self):
-        self.refuses_no_texts(read_rules)
+        self.refuses_no_texts(read_rules, "a b: X any any -> X")
 
     def test_beside_a_reckoning(self):
         source = random.Random(59)
@@ -147,8 +150,10 @@ class TestToldRows(TextCase):
         for text, error, what in (
             ("", BadText, 0), ("a", BadText, 1), ("a: a", BadText, 4), ("a: ;", BadText, 3), ("a: a a a -> a;", BadText, 14),
             ("a: a a a -> a; ;", BadText, 15), ("a: a a a -> gap", BadText, 12), ("a: a a a -> turn", BadText, 12),
-            ("a: any a a -> a", BadText, 3), ("a: X a a -> a", BadText, 3), ("a: a gap a -> a", BadText, 5), ("a: a a a a", BadText, 9),
-            ("a: b a a -> a", NoName, 3), ("a: a b a -> a", NoName, 5), ("a: a a b -> a", NoName, 7), ("a: a a a -> b", NoName, 12),
+            ("a: any a a -> a", BadText, 3), ("a: X a a -> a", BadText, 3), ("a: a gap a -> a", BadText, 5),
+            ("a: a a a a", BadText, 9),
+            ("a: b a a -> a", NoName, 3), ("a: a b a -> a", NoName, 5), ("a: a a b -> a", NoName, 7),
+            ("a: a a a -> b", NoName, 12),
             ("a: a a a -> a |", BadText, 14), ("a: |", BadText, 3), ("a: a a a -> a, a", BadText, 13), ("a a: ", Twice, 2),
             ("a: a a a -> a a", BadText, 14), ("a: a a a a a", BadText, 9), ("a: 0", BadText, 3), ("a::", BadText, 2),
         ):
@@ -165,7 +170,7 @@ class TestToldRows(TextCase):
             self.refuses(error, what, read_told, "a:" + text)
 
     def test_no_texts(self):
-        self.refuses_no_texts(read_told)
+        self.refuses_no_texts(read_told, "a b: a b b -> a")
 
     def test_bent_texts(self):
         source = random.Random(61)

@@ -176,7 +176,8 @@ class TestTablesThatClash(Case):
         # The desk judges what read_rules tells.
         desk = Desk((((), ((),)),), (("x",),), (0,))
         for text in (
-            "off on: X X Y -> Y; X Y X -> Y; X Y Y -> Y", "a b c: any any any -> turn", "a b c: X Y Y -> Y; any any any -> turn",
+            "off on: X X Y -> Y; X Y X -> Y; X Y Y -> Y", "a b c: any any any -> turn",
+            "a b c: X Y Y -> Y; any any any -> turn",
             "a b c d: X X Y -> Y; X Y X -> Y; any any any -> a",
         ):
             names, table = read_rules(text)
@@ -201,16 +202,19 @@ class TestGeneralRules(Case):
         replica.set_head("main", (("a", 0),))
         lot = random_lot(source, range(6))
         for thing in (
-            vault.fields(), vault.first(), vault.edits(), vault.steps_of(3), vault.made_on(3), vault.amounts(lot), vault.record(lot),
+            vault.fields(), vault.first(), vault.edits(), vault.steps_of(3), vault.made_on(3), vault.amounts(lot),
+            vault.record(lot),
             vault.barred(lot), vault.merged(lot, lot, lot), branches.names(), branches.head("main"), branches.log("main"),
-            branches.commit("main", vault.first()), replica.known(), replica.amounts(()), replica.record(()), replica.barred(()),
+            branches.commit("main", vault.first()), replica.known(), replica.amounts(()), replica.record(()),
+            replica.barred(()),
             replica.packet(()), replica.take(()), replica.head("main"), replica.heads(), replica.edit((), vault.first()),
             read_grid("a b: a b, b gap; b a, a b"), read_rules("a: any any any -> a"), read_told("a: a a a -> a"),
             read_history(("a",), "first a; edit 0 a"), read_kind("a b: sizes 4: 0, 1"),
         ):
             self.assertTrue(plain(thing), thing)
         nothing = (
-            branches.start("b", ()), branches.merge("b", "main"), branches.pick("b", 1), branches.take_out("b", 1), branches.drop("b"),
+            branches.start("b", ()), branches.merge("b", "main"), branches.pick("b", 1), branches.take_out("b", 1),
+            branches.drop("b"),
             branches.back(), branches.again(), replica.set_head("b", ()), replica.hear(()),
         )
         self.assertEqual(set(nothing), {None})

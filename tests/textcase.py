@@ -15,7 +15,8 @@ NAME_SETS = (
 # No texts at all, with the index that BadText tells.
 NO_TEXTS = (
     (None, -1), (True, -1), (0, -1), (7, -1), ((), -1), (("a:",), -1), ("\n", 0), ("a:\t", 2), ("a%: b", 1), ("\u00e9", 0),
-    ("a\u00b2:", 1), ("a\x7f", 1), ("a\x1f", 1), ("a: \ud800", 3), ("%" * 30000, 0), (" " * 20000, 20000), (" " * 20001, 20000),
+    ("a\u00b2:", 1), ("a\x7f", 1), ("a\x1f", 1), ("a: \ud800", 3), ("%" * 30000, 0), (" " * 20000, 20000),
+    (" " * 20001, 20000),
     (" " * 19999 + "%", 19999), (" " * 20000 + "%", 20000), (" " * 5 + "\n" + " " * 20000, 5), (" " * 30000 + "\n", 20000),
     ("abc: -> ~ ; " * 3000, 20000),
 )
@@ -23,8 +24,14 @@ NO_TEXTS = (
 
 class TextCase(Case):
 
-    def refuses_no_texts(self, call):
-        """A call with a text as its only argument refuses what is no text, as it is told ahead of all reading."""
+    def refuses_no_texts(self, call, right):
+        """A call with a text as its only argument refuses what is no text, as it is told ahead of all reading.
+
+        A right text of 20000 signs is read, of 20001 not.
+        """
+        self.assertEqual(call(right.ljust(20000)), call(right))
+        self.assertEqual(call(" " * (20000 - len(right)) + right), call(right))
+        self.refuses(BadText, 20000, call, right.ljust(20001))
         for text, what in NO_TEXTS:
             if text != " " * 20000:
                 self.refuses(BadText, what, call, text)
